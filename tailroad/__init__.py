@@ -1,0 +1,1 @@
+"""Tailroad: calls in last place become jumps."""
