@@ -1,4 +1,4 @@
-"""Trees and programs that several tests share."""
+"""Trees, programs and codes that several tests share."""
 
 from random import Random
 
@@ -24,6 +24,12 @@ WRAPPERS = {
     "call, second": lambda tree: ("call", 0, [ONE, tree]),
 }
 
+# The words of rows; those that make runs go on for a while stand more than once.
+ROW_WORDS = (
+    "num", "num", "num", "num", "num", "num", "arg", "add", "sub", "less", "sure", "sure",
+    "keep", "drop", "unless", "skip", "call", "call", "call", "jump", "back", "back",
+)
+
 LAST_PLACES = ("pick, second", "pick, third", "let, second")
 
 
@@ -40,7 +46,7 @@ def calling(which):
 
 
 class Grower:
-    """Grows trees and programs; the same number grows the same ones."""
+    """Grows trees, programs and codes; the same number grows the same ones."""
 
     def __init__(self, seed):
         self.chance = Random(seed)
@@ -101,3 +107,31 @@ class Grower:
 
     def grow_many(self, many, depth, known, counts, wrong):
         return [self.tree(depth - 1, known, counts, wrong) for _ in range(many)]
+
+    def code(self, rows, functions):
+        """A code that no program was made into: rows and starts as chance has them."""
+        told = []
+        while len(told) < rows:
+            told.append(self.row(rows, functions))
+            if told[-1][0] == "call" and self.chance.randrange(2):
+                told.append(("back",))
+        return told[:rows], self.starts(rows, functions)
+
+    def starts(self, rows, functions):
+        # Now and then a function begins just behind the rows.
+        return [(self.chance.randrange(rows + 1), self.chance.choice([0, 0, 1, 2]))
+                for _ in range(functions)]
+
+    def row(self, rows, functions):
+        word = self.chance.choice(ROW_WORDS)
+        if word == "num":
+            return (word, self.chance.randrange(-2, 3))
+        if word == "arg":
+            return (word, self.chance.randrange(2))
+        if word in ("unless", "skip"):
+            return (word, self.chance.randrange(min(rows, 4)))
+        if word in ("call", "jump"):
+            # Now and then a function that the code has not.
+            at = self.chance.randrange(8 * functions + 1)
+            return (word, at % functions if at < 8 * functions else functions)
+        return (word,)
